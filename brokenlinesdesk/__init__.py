@@ -1,0 +1,1 @@
+"""Texts of any script broken into lines: see brokenlinesdesk.lines."""
