@@ -4,12 +4,9 @@ from brokenlinesdesk.classes import (
     AK, AL, AP, AS, B2, BA, BB, BK, CB, CL, CP, CR, EB, EM, EX, GL, H2, H3, HL, HY, ID, IN, IS,
     JL, JT, JV, LF, NL, NS, NU, OP, PO, PR, QU, RI, SP, SY, VF, VI, WJ, ZW,
 )
+from brokenlinesdesk.marks import CHANCE, MUST, NONE
 from brokenlinesdesk.units import NOTHING, no_unit, units_of
 from brokenlinesdesk.words import word_cuts
-
-NONE = 0
-CHANCE = 1
-MUST = 2
 
 # A rule that has nothing to say of a place.
 SILENT = -1

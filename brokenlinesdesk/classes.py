@@ -78,3 +78,8 @@ def line_class(book, ways, scalar):
     if ways.keep_all and found in (ID, H2, H3, JL, JV, JT):
         return AL
     return found
+
+
+# A scalar of one of these classes takes no marks and is none, so it's always a whole unit.
+def stands_alone(kind):
+    return kind in (BK, CR, LF, NL, SP, ZW)

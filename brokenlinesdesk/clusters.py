@@ -40,7 +40,7 @@ def is_pictographic(book, scalar):
     return not is_hangul(scalar) and book.has_flag(PICTOGRAPHIC, scalar)
 
 
-# What the cluster rules ask of a text's scalars.
+# What the cluster rules ask of a text's scalars, looked up once for all rows of the text.
 class Signs:
     def __init__(self, book, text):
         self.kinds = [cluster_class(book, scalar) for scalar in text]
@@ -58,38 +58,39 @@ def syllable_joins(a, b):
 
 
 # Rule 10
-def conjunct_joins(signs, place):
+def conjunct_joins(signs, begin, place):
     if signs.conjuncts[place] != CONSONANT:
         return False
     linked = False
     back = place - 1
-    while back >= 0 and signs.conjuncts[back] in (LINKER, CONJUNCT_EXTEND):
+    while back >= begin and signs.conjuncts[back] in (LINKER, CONJUNCT_EXTEND):
         linked = linked or signs.conjuncts[back] == LINKER
         back -= 1
-    return linked and back >= 0 and signs.conjuncts[back] == CONSONANT
+    return linked and back >= begin and signs.conjuncts[back] == CONSONANT
 
 
 # Rule 11
-def picture_joins(signs, place):
+def picture_joins(signs, begin, place):
     if not signs.pictures[place] or signs.kinds[place - 1] != ZWJ:
         return False
     back = place - 2
-    while back >= 0 and signs.kinds[back] == EXTEND:
+    while back >= begin and signs.kinds[back] == EXTEND:
         back -= 1
-    return back >= 0 and signs.pictures[back]
+    return back >= begin and signs.pictures[back]
 
 
 # Rule 12
-def indicator_joins(signs, place):
+def indicator_joins(signs, begin, place):
     if signs.kinds[place] != RI:
         return False
     back = place - 1
-    while back >= 0 and signs.kinds[back] == RI:
+    while back >= begin and signs.kinds[back] == RI:
         back -= 1
     return (place - 1 - back) % 2 == 1
 
 
-def is_joined(signs, place):
+# Of a row that begins at begin: what stands before it is of no account.
+def is_joined(signs, begin, place):
     a = signs.kinds[place - 1]
     b = signs.kinds[place]
     if a == CR and b == LF:
@@ -99,13 +100,14 @@ def is_joined(signs, place):
     # From rule 4 on all but the last join, so their order is of no account.
     if syllable_joins(a, b) or b in (EXTEND, ZWJ, SPACING_MARK) or a == PREPEND:
         return True
-    return conjunct_joins(signs, place) or picture_joins(signs, place) or indicator_joins(signs, place)
+    if conjunct_joins(signs, begin, place) or picture_joins(signs, begin, place):
+        return True
+    return indicator_joins(signs, begin, place)
 
 
-# Where the clusters of a text end, one behind another.
-def cluster_ends(book, text):
-    signs = Signs(book, text)
-    ends = [place for place in range(1, len(text)) if not is_joined(signs, place)]
-    if len(text) > 0:
-        ends.append(len(text))
+# Where the clusters of the row from begin to end have their ends, one behind another.
+def cluster_ends(signs, begin, end):
+    ends = [place for place in range(begin + 1, end) if not is_joined(signs, begin, place)]
+    if begin < end:
+        ends.append(end)
     return ends

@@ -1,6 +1,6 @@
 """A text parted into units: a scalar and the marks behind it."""
 
-from brokenlinesdesk.classes import AL, BK, CM, CR, LF, NL, SA, SP, ZW, ZWJ, first_class, line_class
+from brokenlinesdesk.classes import AL, BK, CM, CR, LF, NL, SA, ZWJ, first_class, line_class, stands_alone
 from brokenlinesdesk.kinds import CN, FULL, GENERAL, HALF, PF, PI, PICTOGRAPHIC, WIDE, WIDTH
 
 RING = 0x25CC
@@ -52,7 +52,7 @@ def make_unit(book, text, kinds, begin, end):
 
 def unit_end(kinds, begin):
     end = begin + 1
-    if kinds[begin] in (BK, CR, LF, NL, SP, ZW):
+    if stands_alone(kinds[begin]):
         return end
     while end < len(kinds) and kinds[end] in (CM, ZWJ):
         end += 1

@@ -6,6 +6,7 @@ BREAK_ALL = 2
 KEEP_ALL = 3
 WORDS_ASKED = 4
 EASTERN = 5
+SPLIT = 6
 
 STRICT = 0
 LOOSE = 2
@@ -28,4 +29,5 @@ class Ways:
         self.keep_all = has_bit(number, KEEP_ALL)
         self.by_words = has_bit(number, WORDS_ASKED)
         self.eastern = has_bit(number, EASTERN)
+        self.splits = has_bit(number, SPLIT)
         self.tab = number >> 8 & 63

@@ -1,5 +1,7 @@
 """Calls and books in a form that is easy to write down, for the tests."""
 
+import re
+
 from brokenlinesdesk.lines import answers
 
 CLASS_NAMES = (
@@ -56,6 +58,18 @@ def chances_call(w, text):
 
 def width_call(w, text):
     return [3, w] + row(text)
+
+
+def fill_call(w, columns, text, marks):
+    return [4, w, columns] + row(text) + row(marks)
+
+
+def ragged_call(w, columns, text, marks):
+    return [5, w, columns] + row(text) + row(marks)
+
+
+def measure_call(w, text):
+    return [6, w] + row(text)
 
 
 def run(*calls):
@@ -122,3 +136,125 @@ def chances(tokens, w=STRICT, book=CLASS_BOOK):
     answer = run(book, chances_call(w, text_of(tokens)))
     assert answer[0] == [0], answer[0]
     return letters(answer[1])
+
+
+def marks_from(written):
+    """Marks out of letters: . none, c chance, m must."""
+    return [".cm".index(letter) for letter in written]
+
+
+def lines_of(answer):
+    """The lines of an answer, as pairs."""
+    assert answer[0] == 0 and answer[1] == len(answer) - 2, answer
+    assert answer[1] % 2 == 0, answer
+    return list(zip(answer[2::2], answer[3::2]))
+
+
+# A book for lines: what is small is as wide as 1, capital letters as 2; a mark of no width, a linker and a consonant, a
+# picture, indicators; and all that is left away at a line's end. A sequence makes "o" with two marks less wide than "o".
+SPACE, ZERO_SPACE, BREAK, RETURN, FEED, NEXT = 32, 0x200B, 11, 13, 10, 0x85
+TAB, MARK, JOINER, INDICATOR, PICTURE, AMBIGUOUS, PREPEND = 9, 0x300, 0x200D, 0x1F1E6, 0x1F600, 0xA1, 0x600
+LINES_PROPERTIES = [
+    (1, MARK, MARK, 6), (1, JOINER, JOINER, 27),
+    (2, FEED, FEED, 2), (2, RETURN, RETURN, 1), (2, MARK, MARK, 4), (2, PREPEND, PREPEND, 7), (2, JOINER, JOINER, 5),
+    (2, INDICATOR, INDICATOR, 6),
+    (6, TAB, TAB, 7), (6, FEED, FEED, 30), (6, BREAK, BREAK, 9), (6, RETURN, RETURN, 15), (6, SPACE, SPACE, 41),
+    (6, NEXT, NEXT, 31), (6, MARK, MARK, 13), (6, ZERO_SPACE, ZERO_SPACE, 46), (6, JOINER, JOINER, 47),
+    (6, INDICATOR, INDICATOR, 38), (6, PICTURE, PICTURE, 24),
+    (7, 65, 90, 3), (7, AMBIGUOUS, AMBIGUOUS, 1), (7, PICTURE, PICTURE, 3),
+    (13, PICTURE, PICTURE, 1 << 12),
+]
+LESSENING = [(2, [ord("o"), MARK, MARK], [0]), (2, [PICTURE, JOINER, PICTURE], [1])]
+LINES_BOOK = book_call(properties=LINES_PROPERTIES, sequences=LESSENING)
+# Without the sequences a shorter row is never wider.
+PLAIN_BOOK = book_call(properties=LINES_PROPERTIES)
+
+SIGNS = {
+    "_": SPACE, "^": MARK, "z": ZERO_SPACE, "|": BREAK, "<": RETURN, ">": FEED, "!": NEXT, "-": TAB, "+": JOINER,
+    "*": INDICATOR, "#": PICTURE, "?": AMBIGUOUS, "=": PREPEND,
+}
+
+
+def scalars_of(written):
+    """A text out of letters, with signs for what is no letter."""
+    return [SIGNS.get(letter, ord(letter)) for letter in written]
+
+
+# The clusters of a text by the book for lines, as a pattern over its letters and signs.
+CLUSTER = re.compile(r"<>|[<>]|=*(?:[*][*]?|#(?:\^*[+]#)*|[^<>^+=*#]|(?=[\^+]))[\^+]*|=+")
+
+
+def borders_of(written):
+    """The ends of a text's clusters."""
+    found = CLUSTER.findall(written)
+    assert "".join(found) == written and "" not in found, written
+    return [len("".join(found[:count])) for count in range(1, len(found) + 1)]
+
+
+def asked_lines(call, written, marks, columns, w=STRICT, book=LINES_BOOK):
+    told = run(book, call(w, columns, scalars_of(written), marks_from(marks)))
+    assert told[0] == [0], told[0]
+    return lines_of(told[1])
+
+
+def filled(written, marks, columns, w=STRICT, book=LINES_BOOK):
+    return asked_lines(fill_call, written, marks, columns, w, book)
+
+
+def ragged(written, marks, columns, w=STRICT, book=LINES_BOOK):
+    return asked_lines(ragged_call, written, marks, columns, w, book)
+
+
+def own_marks(written, w=STRICT, book=LINES_BOOK):
+    return letters(run(book, chances_call(w, scalars_of(written)))[1])
+
+
+def measures(rows, w=STRICT, book=LINES_BOOK):
+    """The measures of rows of scalars, in lists of calls that are no longer than they may be."""
+    told = []
+    for first in range(0, len(rows), 20):
+        told += run(book, *[measure_call(w, line) for line in rows[first:first + 20]])[1:]
+    return [number for (number,) in told]
+
+
+def measure(written, w=STRICT, book=LINES_BOOK):
+    return measures([scalars_of(written)], w, book)[0]
+
+
+def table_text(length):
+    return list(range(0x300, 0x300 + length))
+
+
+def table_book(length, table):
+    """A book by which each row of a text of so many scalars is as wide as a table of (from, to) tells, else 1.
+
+    All scalars extend what is before them, so each row of two or more is one cluster, and a key of its own.
+    """
+    text = table_text(length)
+    records = [(2, text[0], text[-1], 4)]
+    for (begin, end), width in table.items():
+        # Ranges that touch differ in value, so neighbours take turns: Mn and Me, W and F.
+        turn = begin % 2
+        if end - begin == 1 and width == 0:
+            records.append((1, text[begin], text[begin], 6 + 2 * turn))
+        if end - begin == 1 and width == 2:
+            records.append((7, text[begin], text[begin], 3 + turn))
+    keys = [(2, text[begin:end], [width]) for (begin, end), width in table.items() if end - begin > 1]
+    return book_call(properties=sorted(records), sequences=sorted(keys))
+
+
+def table_lines(call, marks, columns, table, w=STRICT):
+    book = table_book(len(marks), table)
+    told = run(book, call(w, columns, table_text(len(marks)), marks_from(marks)))
+    assert told[0] == [0], told[0]
+    return lines_of(told[1])
+
+
+def rows_of(length):
+    """Each row of a text of so many scalars: from, to."""
+    return [(begin, end) for begin in range(length) for end in range(begin + 1, length + 1)]
+
+
+def all_measures(text, w=STRICT, book=LINES_BOOK):
+    rows = rows_of(len(text))
+    return dict(zip(rows, measures([text[begin:end] for begin, end in rows], w, book)))

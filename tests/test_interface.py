@@ -5,7 +5,25 @@ import unittest
 
 import brokenlinesdesk
 from brokenlinesdesk.lines import UnknownCall, answers
-from tests.helper import CLASS_BOOK, WORDS, book_call, chances_call, flat, row, run, text_of, width_call
+from tests.helper import (
+    CLASS_BOOK, LINES_BOOK, SPLIT, WORDS, book_call, chances_call, fill_call, flat, measure_call, ragged_call,
+    raw_book_call, row, run, scalars_of, tab, text_of, width_call,
+)
+
+# All six calls in one list, some of them refused, with refused books between.
+MIXED = [
+    measure_call(0, [97, 32]), LINES_BOOK, fill_call(0, 5, scalars_of("aa_bb_cc"), [0, 0, 1, 0, 0, 1, 0, 2]),
+    book_call(properties=[(7, 97, 97, 6)]), chances_call(0, scalars_of("a_b|")),
+    ragged_call(0, 3, scalars_of("a_b_cc"), [0, 1, 0, 1, 0, 2]), width_call(tab(4), scalars_of("a-B")),
+    raw_book_call([0] * 8193), measure_call(0, scalars_of("A__")), fill_call(SPLIT, 2, scalars_of("aaa"), [0, 0, 2]),
+    ragged_call(0, 0, [97], [2]), fill_call(0, 1, [97], [2] * 65), measure_call(3, []),
+    book_call(properties=[(7, 97, 97, 3)]), ragged_call(0, 3, scalars_of("a_b_cc"), [0, 1, 0, 1, 0, 2]),
+    measure_call(0, [97, 32]),
+]
+MIXED_ANSWERS = [
+    [2], [0], [0, 4, 0, 6, 6, 8], [-5, 8, 0], [0, 4, 0, 1, 0, 2], [0, 4, 0, 4, 4, 6], [6], [-6], [2], [0, 4, 0, 2, 2, 3],
+    [-1], [-6], [-1], [0], [0, 6, 0, 2, 2, 4, 4, 6], [3],
+]
 
 
 class Interface(unittest.TestCase):
@@ -20,6 +38,35 @@ class Interface(unittest.TestCase):
         self.assertEqual(answers([3, 0, 3, 65, 66, 67]), [1, 3])
         self.assertEqual(answers([3, 3, 1, 65]), [1, -1])
         self.assertEqual(answers([3, 0] + row([65] * 65)), [1, -6])
+
+    def test_the_same_of_lines_and_measures(self):
+        self.assertEqual(answers([4, 0, 2, 3, 65, 66, 67, 3, 0, 1, 2]), [6, 0, 4, 0, 2, 2, 3])
+        self.assertEqual(answers([4, 0, 2, 0, 0]), [2, 0, 0])
+        self.assertEqual(answers([4, 0, 0, 1, 65, 1, 2]), [1, -1])
+        self.assertEqual(answers([4, 0, 1] + row([65] * 65) + row([2])), [1, -6])
+        self.assertEqual(answers([5, 0, 2, 3, 65, 66, 67, 3, 0, 1, 2]), [6, 0, 4, 0, 2, 2, 3])
+        self.assertEqual(answers([5, 0, 2, 0, 0]), [2, 0, 0])
+        self.assertEqual(answers([5, 0, 0, 1, 65, 1, 2]), [1, -1])
+        self.assertEqual(answers([5, 0, 1] + row([65] * 65) + row([2])), [1, -6])
+        self.assertEqual(answers([6, 0, 3, 65, 66, 67]), [1, 3])
+        self.assertEqual(answers([6, 0, 0]), [1, 0])
+        self.assertEqual(answers([6, 3, 1, 65]), [1, -1])
+        self.assertEqual(answers([6, 0] + row([65] * 65)), [1, -6])
+
+    def test_all_six_calls_mixed(self):
+        self.assertEqual(run(*MIXED), MIXED_ANSWERS)
+
+    def test_a_second_call_answers_as_if_it_were_the_first(self):
+        for call, answer in zip(MIXED[2:13], MIXED_ANSWERS[2:13]):
+            self.assertEqual(run(LINES_BOOK, call, call), [[0], answer, answer])
+            self.assertEqual(run(LINES_BOOK, *MIXED[2:13], call)[-1], answer)
+
+    def test_each_order_of_the_calls(self):
+        # None but a book that is taken changes what another call answers.
+        calls = MIXED[2:13]
+        for turn in range(len(calls)):
+            told = run(LINES_BOOK, *calls[turn:], *calls[:turn])[1:]
+            self.assertEqual(told, MIXED_ANSWERS[2 + turn:13] + MIXED_ANSWERS[2:2 + turn])
 
     def test_calls_one_behind_another_in_any_order(self):
         calls = [width_call(0, [65, 66]), chances_call(0, [32, 65]), book_call(properties=[(6, 32, 32, 41), (7, 65, 65, 3)])]
@@ -38,7 +85,7 @@ class Interface(unittest.TestCase):
     def test_what_is_handed_in_is_not_changed(self):
         calls = flat([CLASS_BOOK, chances_call(WORDS, text_of("SA SA SP AL")), width_call(0, text_of("AL CM SP")),
                       book_call(maps=[(1, 65, [66])], sequences=[(1, [65], [5]), (2, [65, 66], [9])]),
-                      book_call(maps=[(0, 65, [66])]), chances_call(3, [65])])
+                      book_call(maps=[(0, 65, [66])]), chances_call(3, [65])] + MIXED)
         before = copy.deepcopy(calls)
         answers(calls)
         self.assertEqual(calls, before)
@@ -49,7 +96,7 @@ class Interface(unittest.TestCase):
                 raise AssertionError("changed")
             append = extend = insert = pop = remove = clear = sort = reverse = refuse
             __setitem__ = __delitem__ = __iadd__ = __imul__ = refuse
-        calls = Watched(flat([CLASS_BOOK, chances_call(WORDS, text_of("SA SA SP AL")), width_call(0, text_of("AL CM SP"))]))
+        calls = Watched(flat([CLASS_BOOK, chances_call(WORDS, text_of("SA SA SP AL")), width_call(0, text_of("AL CM SP"))] + MIXED))
         self.assertEqual(answers(calls), answers(list(calls)))
 
     def test_nothing_is_kept_from_one_time_to_the_next(self):
@@ -59,15 +106,22 @@ class Interface(unittest.TestCase):
         self.assertEqual(answers(flat([width, book, width])), first)
         self.assertEqual(first, [1, 1, 1, 0, 1, 2])
         self.assertEqual(answers(width), [1, 1])
+        mixed = answers(flat(MIXED))
+        self.assertEqual(answers(flat(MIXED)), mixed)
+        self.assertEqual(answers(measure_call(0, [97, 32])), [1, 2])
+        self.assertEqual(answers(fill_call(0, 2, [97, 97], [1, 2])), [4, 0, 2, 0, 2])
 
     def test_what_is_answered_is_new_each_time(self):
         calls = [2, 0, 2, 65, 66]
         first = answers(calls)
         first.append(7)
         self.assertEqual(answers(calls), [4, 0, 2, 0, 2])
+        for calls in (fill_call(0, 1, [65, 66], [1, 2]), ragged_call(0, 1, [65, 66], [1, 2])):
+            answers(calls).clear()
+            self.assertEqual(answers(calls), [6, 0, 4, 0, 1, 1, 2])
 
     def test_plain_whole_numbers(self):
-        told = answers(flat([CLASS_BOOK, chances_call(0, text_of("AL SP AL")), width_call(0, [65]), width_call(3, [])]))
+        told = answers(flat([CLASS_BOOK, chances_call(0, text_of("AL SP AL")), width_call(0, [65]), width_call(3, [])] + MIXED))
         self.assertIs(type(told), list)
         for number in told:
             self.assertIs(type(number), int)

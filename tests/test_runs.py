@@ -1,6 +1,8 @@
 import unittest
 
-from tests.helper import WORDS, book_call, chances, chances_call, letters, run
+from tests.helper import (
+    SPLIT, WORDS, book_call, chances, chances_call, filled, letters, measure, own_marks, ragged, run,
+)
 
 RUNS = """
 AL SP AL | .cm
@@ -43,6 +45,27 @@ class Runs(unittest.TestCase):
         book = book_call(properties=[(6, 0xE01, 0xE03, 39)], sequences=words)
         answer = run(book, chances_call(WORDS, [0xE01, 0xE02, 0xE03]))
         self.assertEqual(letters(answer[1]), "c.m")
+
+    def test_the_run_of_filled_lines(self):
+        marks = own_marks("aa_bb_cc")
+        self.assertEqual(marks, "..c..c.m")
+        self.assertEqual(filled("aa_bb_cc", marks, 5), [(0, 6), (6, 8)])
+        self.assertEqual([measure("aa_bb_"), measure("cc")], [5, 2])
+
+    def test_the_run_of_least_raggedness(self):
+        text = "aaa_bb_cc_ddddd"
+        marks = own_marks(text)
+        self.assertEqual(marks, "...c..c..c....m")
+        self.assertEqual(filled(text, marks, 6), [(0, 7), (7, 10), (10, 15)])
+        self.assertEqual([measure("aaa_bb_"), measure("cc_"), measure("ddddd")], [6, 2, 5])
+        self.assertEqual(ragged(text, marks, 6), [(0, 4), (4, 10), (10, 15)])
+        self.assertEqual([measure("aaa_"), measure("bb_cc_")], [3, 5])
+
+    def test_the_run_of_split(self):
+        marks = own_marks("abcdefgh")
+        self.assertEqual(marks, ".......m")
+        self.assertEqual(filled("abcdefgh", marks, 3, SPLIT), [(0, 3), (3, 6), (6, 8)])
+        self.assertEqual(filled("abcdefgh", marks, 3), [(0, 8)])
 
 
 if __name__ == "__main__":
