@@ -142,6 +142,12 @@ class Badness(unittest.TestCase):
         # 4 in one line, 2 and 2 in two: equal, so the fewer lines. Were squares of these counted, the two lines.
         self.least(".c.m", 10, {(0, 4): 14, (0, 2): 12, (2, 4): 12}, [(0, 4)])
 
+    def test_lines_that_pass_and_lines_that_do_not_are_each_one_line(self):
+        # 4 in one of two lines, or 2 in each: equal, so the longer first line, whichever cut has it.
+        self.least(".c.c..m", 10, {(0, 2): 14, (2, 7): 10, (0, 4): 12, (4, 7): 12}, [(0, 4), (4, 7)])
+        self.least(".c.c..m", 10, {(0, 4): 14, (4, 7): 10, (0, 2): 12, (2, 7): 12}, [(0, 4), (4, 7)])
+        self.least(".c.c..m", 10, {(0, 4): 10, (4, 7): 14, (0, 2): 12, (2, 7): 12}, [(0, 4), (4, 7)])
+
     def test_squares_come_before_how_many_lines(self):
         # Lacks 4 in two lines, 2 and 3 in three.
         table = {(0, 3): 6, (3, 6): 9, (0, 2): 8, (2, 4): 7, (4, 6): 10}
